@@ -1,0 +1,120 @@
+package digest
+
+import "slatewall/api"
+
+const (
+	// blockSize is how many bytes are mixed into the digest at once.
+	blockSize = 64
+	// lengthAt is where the length begins in the last block.
+	lengthAt = 56
+	// endMark is the byte behind the last one of a string.
+	endMark = 128
+	// rounds is how often the words are mixed for each block.
+	rounds = 64
+)
+
+// block is a part of a string that is mixed into the digest at once.
+type block [blockSize]byte
+
+// roundWords are the words k: one is added in each round.
+var roundWords = [rounds]uint32{
+	0x428a2f98, 0x71374491, 0xb5c0fbcf, 0xe9b5dba5, 0x3956c25b, 0x59f111f1, 0x923f82a4, 0xab1c5ed5,
+	0xd807aa98, 0x12835b01, 0x243185be, 0x550c7dc3, 0x72be5d74, 0x80deb1fe, 0x9bdc06a7, 0xc19bf174,
+	0xe49b69c1, 0xefbe4786, 0x0fc19dc6, 0x240ca1cc, 0x2de92c6f, 0x4a7484aa, 0x5cb0a9dc, 0x76f988da,
+	0x983e5152, 0xa831c66d, 0xb00327c8, 0xbf597fc7, 0xc6e00bf3, 0xd5a79147, 0x06ca6351, 0x14292967,
+	0x27b70a85, 0x2e1b2138, 0x4d2c6dfc, 0x53380d13, 0x650a7354, 0x766a0abb, 0x81c2c92e, 0x92722c85,
+	0xa2bfe8a1, 0xa81a664b, 0xc24b8b70, 0xc76c51a3, 0xd192e819, 0xd6990624, 0xf40e3585, 0x106aa070,
+	0x19a4c116, 0x1e376c08, 0x2748774c, 0x34b0bcb5, 0x391c0cb3, 0x4ed8aa4a, 0x5b9cca4f, 0x682e6ff3,
+	0x748f82ee, 0x78a5636f, 0x84c87814, 0x8cc70208, 0x90befffa, 0xa4506ceb, 0xbef9a3f7, 0xc67178f2,
+}
+
+// sumOf returns the SHA-256 of the parts, one after the other. They are not joined for it, because they may be long.
+func sumOf(parts ...string) string {
+	words := [8]uint32{
+		0x6a09e667, 0xbb67ae85, 0x3c6ef372, 0xa54ff53a,
+		0x510e527f, 0x9b05688c, 0x1f83d9ab, 0x5be0cd19,
+	}
+	for b := range blocks(parts...) {
+		words = mix(words, schedule(b))
+	}
+	sum := make([]byte, 0, api.DigestSize)
+	for _, word := range words {
+		sum = append(sum, byte(word>>24), byte(word>>16), byte(word>>8), byte(word))
+	}
+	return string(sum)
+}
+
+// blocks ranges over the blocks of the parts, one after the other, with the padding and the length behind them.
+func blocks(parts ...string) func(yield func(b block) bool) {
+	return func(yield func(b block) bool) {
+		var b block
+		used, length := 0, 0
+	fill:
+		for _, part := range parts {
+			length += len(part)
+			for {
+				n := copy(b[used:], part)
+				part = part[n:]
+				used += n
+				if used < blockSize {
+					continue fill
+				}
+				if !yield(b) {
+					return
+				}
+				used = 0
+			}
+		}
+		b[used] = endMark
+		clear(b[used+1:])
+		if used >= lengthAt {
+			if !yield(b) {
+				return
+			}
+			b = block{}
+		}
+		putLength(&b, 8*uint64(length))
+		yield(b)
+	}
+}
+
+// putLength writes a number of bits at the end of a block, the highest byte first.
+func putLength(b *block, length uint64) {
+	for i := range blockSize - lengthAt {
+		b[blockSize-1-i] = byte(length >> (8 * i))
+	}
+}
+
+// schedule returns the words w of a block: one is added in each round.
+func schedule(b block) [rounds]uint32 {
+	var w [rounds]uint32
+	for i := range blockSize / 4 {
+		w[i] = uint32(b[4*i])<<24 | uint32(b[4*i+1])<<16 | uint32(b[4*i+2])<<8 | uint32(b[4*i+3])
+	}
+	for i := blockSize / 4; i < rounds; i++ {
+		x := right(w[i-15], 7) ^ right(w[i-15], 18) ^ w[i-15]>>3
+		y := right(w[i-2], 17) ^ right(w[i-2], 19) ^ w[i-2]>>10
+		w[i] = w[i-16] + x + w[i-7] + y
+	}
+	return w
+}
+
+// mix returns what the eight words are after a block with the words w.
+func mix(words [8]uint32, w [rounds]uint32) [8]uint32 {
+	a, b, c, d := words[0], words[1], words[2], words[3]
+	e, f, g, h := words[4], words[5], words[6], words[7]
+	for i := range rounds {
+		t := h + (right(e, 6) ^ right(e, 11) ^ right(e, 25)) + ((e & f) ^ (^e & g)) + roundWords[i] + w[i]
+		u := (right(a, 2) ^ right(a, 13) ^ right(a, 22)) + ((a & b) ^ (a & c) ^ (b & c))
+		a, b, c, d, e, f, g, h = t+u, a, b, c, d+t, e, f, g
+	}
+	for i, word := range [8]uint32{a, b, c, d, e, f, g, h} {
+		words[i] += word
+	}
+	return words
+}
+
+// right rotates a word to the right by n bits.
+func right(word uint32, n int) uint32 {
+	return word>>n | word<<(32-n)
+}
